@@ -1,0 +1,1 @@
+"""Seatplan: groups that sit together."""
